@@ -1,0 +1,1 @@
+"""Bernoulli's numbers, told exactly."""

@@ -1,0 +1,57 @@
+"""The calls: each answers a list of whole numbers, 0 first, or a refusal's number alone."""
+
+ANSWERED = 0
+REFUSED = -1
+LAST_NUMBER = 120
+
+
+def number(n):
+    """0, then what's above and what's below in Bernoulli's number Bn; or -1."""
+    if n < 0 or n > LAST_NUMBER:
+        return [REFUSED]
+    scale = factorial(n + 1)
+    scaled = scaled_numbers(n, scale)
+    return [ANSWERED] + lowest_terms(scaled[n], scale)
+
+
+def factorial(n):
+    product = 1
+    for factor in range(2, n + 1):
+        product = product * factor
+    return product
+
+
+def scaled_numbers(n, scale):
+    """B0 to Bn, each times scale, which is (n + 1)!.
+
+    Each is whole, so the division loses nothing: Bm times (m + 1)! is, but for the sign, the sum over all k
+    below m of Bk times m!, times the ways to choose k of m + 1 things; and Bk times (k + 1)!, which goes
+    into Bk times m!, was whole before.
+    """
+    found = [scale]
+    choices = [1, 1]
+    for m in range(1, n + 1):
+        choices = next_choices(choices)
+        others = sum([choices[k] * found[k] for k in range(m)])
+        found.append(-(others // choices[m]))
+    return found
+
+
+def next_choices(choices):
+    """From the ways to choose 0, 1 and so on of some things, those for one thing more."""
+    inner = [choices[k] + choices[k + 1] for k in range(len(choices) - 1)]
+    return [1] + inner + [1]
+
+
+def lowest_terms(above, below):
+    divisor = common_divisor(abs(above), below)
+    return [above // divisor, below // divisor]
+
+
+def common_divisor(first, second):
+    """The greatest; where first is 0 it is second, so that 0 is told as 0 by 1."""
+    while second != 0:
+        rest = first % second
+        first = second
+        second = rest
+    return first
