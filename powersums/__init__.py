@@ -1,1 +1,1 @@
-"""Bernoulli's numbers, told exactly."""
+"""Bernoulli's numbers and sums of powers, told exactly."""

@@ -3,6 +3,8 @@
 ANSWERED = 0
 REFUSED = -1
 LAST_NUMBER = 120
+LAST_POWER = 16
+LAST_SUMMED = 1000000
 
 
 def number(n):
@@ -12,6 +14,14 @@ def number(n):
     scale = factorial(n + 1)
     scaled = scaled_numbers(n, scale)
     return [ANSWERED] + lowest_terms(scaled[n], scale)
+
+
+def sum_of(k, n):
+    """0, then 1, 2 and so on up to n, each to the power k, added up; or -1."""
+    if k < 0 or k > LAST_POWER or n < 0 or n > LAST_SUMMED:
+        return [REFUSED]
+    sums = power_sums(k, n)
+    return [ANSWERED, sums[k]]
 
 
 def factorial(n):
@@ -55,3 +65,22 @@ def common_divisor(first, second):
         first = second
         second = rest
     return first
+
+
+def power_sums(k, n):
+    """The sums of 1 to n to the powers 0 to k, each from those before it: n may be too great to go through.
+
+    For a power p, what (m + 1) to the power p + 1 is more than m to it is the sum over all j from 0 to p of
+    m to the power j, times the ways to choose j of p + 1 things. Added up over m from 1 to n, the left side
+    leaves (n + 1) to the power p + 1, less 1; the right side the sums for 0 to p, each times those ways. So
+    the division by the ways for p loses nothing.
+    """
+    found = []
+    choices = [1]
+    raised = 1
+    for p in range(k + 1):
+        choices = next_choices(choices)
+        raised = raised * (n + 1)
+        others = sum([choices[j] * found[j] for j in range(p)])
+        found.append((raised - 1 - others) // choices[p])
+    return found

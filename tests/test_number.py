@@ -1,16 +1,14 @@
 """Point 1: number tells Bernoulli's number Bn, or refuses by -1."""
 
 import contextlib
-import copy
 import inspect
 import io
 import math
-import sys
 import unittest
 from fractions import Fraction
 
-from powersums import desk
 from powersums.desk import number
+from watching import AT_FIRST, kept_values, with_little_room
 
 FIRST = 0
 LAST = 120
@@ -52,17 +50,6 @@ KNOWN = {
 }
 
 REFUSED = (-1, 121, LEAST, GREATEST, -2, -120, -121, 122, 240, 1000, 1000000, LEAST + 1, GREATEST - 1)
-
-
-def kept_values():
-    return copy.deepcopy({
-        name: (value, getattr(value, "__defaults__", None), getattr(value, "__dict__", None))
-        for name, value in vars(desk).items() if not name.startswith("__")
-    })
-
-
-# Taken before any call is made: what was kept by an earlier test's calls would hide in a later look.
-AT_FIRST = kept_values()
 
 
 def every_answer():
@@ -164,14 +151,7 @@ class Manners(unittest.TestCase):
         self.assertEqual(shown.getvalue(), "")
 
     def test_goes_by_loops(self):
-        limit = sys.getrecursionlimit()
-        depth = len(inspect.stack(0))
-        sys.setrecursionlimit(depth + 40)
-        try:
-            answer = number(LAST)
-        finally:
-            sys.setrecursionlimit(limit)
-        self.assertEqual(answer, [0, *KNOWN[LAST]])
+        self.assertEqual(with_little_room(number, LAST), [0, *KNOWN[LAST]])
 
 
 if __name__ == "__main__":
