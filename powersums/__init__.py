@@ -1,1 +1,1 @@
-"""Bernoulli's numbers and sums of powers, told exactly."""
+"""Bernoulli's numbers, sums of powers and zigzags, told exactly."""

@@ -5,6 +5,7 @@ REFUSED = -1
 LAST_NUMBER = 120
 LAST_POWER = 16
 LAST_SUMMED = 1000000
+LAST_THINGS = 70
 
 
 def number(n):
@@ -22,6 +23,14 @@ def sum_of(k, n):
         return [REFUSED]
     sums = power_sums(k, n)
     return [ANSWERED, sums[k]]
+
+
+def zig(n):
+    """0, then how many orders of n things are zigzags; or -1."""
+    if n < 0 or n > LAST_THINGS:
+        return [REFUSED]
+    starts = downward_starts(n)
+    return [ANSWERED, starts[n]]
 
 
 def factorial(n):
@@ -83,4 +92,29 @@ def power_sums(k, n):
         raised = raised * (n + 1)
         others = sum([choices[j] * found[j] for j in range(p)])
         found.append((raised - 1 - others) // choices[p])
+    return found
+
+
+def downward_starts(n):
+    """How many orders of 0 to n that go down first, then up, down and so on, begin with 0, with 1, .. with n.
+
+    The last of these is how many zigzags n things have: n is the greatest, so whatever stands behind it is
+    less, and what stands there is any order of 0 to n - 1 that goes up first.
+    """
+    starts = [1]
+    for things in range(1, n + 1):
+        starts = next_downward_starts(starts)
+    return starts
+
+
+def next_downward_starts(starts):
+    """From those for some things, those for one thing more.
+
+    Behind a beginning j stands one of 0 to j - 1, and from there the order goes up first. Turned upside down
+    (the least for the greatest and so on) such an order of the others goes down first and is counted in
+    starts, from its end on: so each beginning has one more of these than the beginning before it.
+    """
+    found = [0]
+    for count in reversed(starts):
+        found.append(found[-1] + count)
     return found
